@@ -126,6 +126,14 @@ func TestSortsOfTerms(t *testing.T) {
 			t.Fatal(e.c, e.row, got, e.want)
 		}
 	}
+	for _, bad := range badVars(1) {
+		checkNoTerm(t, setting{one.s, bad}, []int{1})
+		checkNoTerm(t, setting{one.s, bad}, []int{100})
+	}
+	for _, bad := range invalidSigs() {
+		checkNoTerm(t, setting{bad, nil}, []int{0})
+		checkNoTerm(t, setting{bad, []int{0}}, []int{100})
+	}
 }
 
 func TestLongTerms(t *testing.T) {
