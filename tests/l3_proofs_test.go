@@ -280,12 +280,14 @@ func TestP6ProofsGoWithTheirLetters(t *testing.T) {
 
 func TestProofsWithTheirLettersReplaced(t *testing.T) {
 	x0, x1, one := []int{100}, []int{101}, []int{1}
-	w := worldOf("1:000,0,00", []int{0, 0}, "0 x0=f2(x0)", "00 f0(x0,x1)=f0(x1,x0)", "000 f2(x1)=x1", "0 f0(f1,x0)=x0")
+	w := worldOf("1:000,0,00", []int{0, 0}, "0 x0=f2(x0)", "00 f0(x0,x1)=f0(x1,x0)", "000 f2(x1)=x1", "0 f0(f1,x0)=x0", " f1=f2(f1)")
 	swap := eqOf(w.s, "00 f0(x0,f2(x1))=f0(x0,x1)")
 	remove := []impl.Step{stepAt(0, true, 2, x1)}
 	long := eqOf(w.s, "00 x0=x0")
 	// To f2(x0), and back to x0: f2(x0) is on the way.
 	there := []impl.Step{stepAt(0, false, 0, x0), stepAt(0, true, 0, x0)}
+	// The axiom has no letters, so that only the place of the step is another one.
+	plain, put := eqOf(w.s, "0 f0(x0,f1)=f0(x0,f2(f1))"), []impl.Step{stepAt(4, false, 2)}
 	twice := eqOf(w.s, "0 f0(x0,f2(x0))=f0(x0,x0)")
 	for _, c := range []struct {
 		e      impl.Eq
@@ -334,6 +336,13 @@ func TestProofsWithTheirLettersReplaced(t *testing.T) {
 		{eqOf(w.s, " f1=f1"), nil, nil, [][]int{one}, nil, false},
 		{eqOf(w.s, "0 f1=f1"), nil, nil, nil, nil, false},
 		{eqOf(w.s, "0 f1=f1"), nil, nil, [][]int{{100}}, nil, false},
+		// Steps of an axiom without letters.
+		{plain, put, nil, [][]int{one}, put, true},
+		{plain, put, w.vars, [][]int{chain(5, 101)}, []impl.Step{stepAt(4, false, 6)}, true},
+		{plain, put, nil, nil, nil, false},
+		{plain, put, nil, [][]int{one, one}, nil, false},
+		{plain, put, nil, [][]int{x0}, nil, false},
+		{plain, put, nil, [][]int{nil}, nil, false},
 		// Terms that do not fit.
 		{swap, remove, w.vars, [][]int{x0}, nil, false},
 		{swap, remove, w.vars, [][]int{x0, x1, x1}, nil, false},
