@@ -245,8 +245,8 @@ func (a proofArgs) results() []any {
 	return append(list, last, same, impl.ProofBack(a.Steps), carried, moved, impl.StepsFrom(a.T, a.E.Vars, a.E.Left), found, read)
 }
 
-// checkApart calls the functions twice, and fails if an argument is written to, or if memory is shared.
-func checkApart(t *testing.T, a proofArgs) {
+// checkApart calls the functions of a chapter twice, and fails if an argument is written to, or if memory is shared.
+func checkApart[A interface{ results() []any }](t *testing.T, a A) {
 	t.Helper()
 	given := spared(a)
 	before := wholeText(reflect.ValueOf(given))

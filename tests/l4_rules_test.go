@@ -2,7 +2,6 @@ package tests
 
 import (
 	"math/rand"
-	"reflect"
 	"testing"
 
 	"loop.example/theorymodules/impl"
@@ -106,18 +105,6 @@ func (a mapArgs) results() []any {
 	return []any{impl.MapSelf(a.A), then, vars, u, e, axioms, steps, impl.MapsOf(a.A, a.B)}
 }
 
-// checkMapsApart calls the functions twice, and fails if an argument is written to, or if memory is shared.
-func checkMapsApart(t *testing.T, a mapArgs) {
-	t.Helper()
-	given := spared(a)
-	before := wholeText(reflect.ValueOf(given))
-	results := append(given.results(), given.results()...)
-	if after := wholeText(reflect.ValueOf(given)); after != before {
-		t.Fatal("written to", a, before, after)
-	}
-	apart(t, append(results, given))
-}
-
 // No argument is written to, and no result shares memory with an argument or with another result.
 func TestMapsShareNoMemory(t *testing.T) {
 	r := rand.New(rand.NewSource(51))
@@ -125,15 +112,15 @@ func TestMapsShareNoMemory(t *testing.T) {
 		list := w.pool(int64(i+3300), 8)
 		for _, u := range list {
 			a := argsAlong(r, w, u, list)
-			checkMapsApart(t, a)
-			checkMapsApart(t, a.changed(r, w, list))
+			checkApart(t, a)
+			checkApart(t, a.changed(r, w, list))
 			// Along the map that leaves all, the results are the arguments, in other memory.
 			a.B, a.C, a.M, a.N, a.Led = a.A, a.A, impl.MapSelf(a.A), impl.MapSelf(a.A), a.T
-			checkMapsApart(t, a)
+			checkApart(t, a)
 		}
 	}
 	for _, bad := range badTheories() {
-		checkMapsApart(t, mapArgs{A: bad.Over, B: bad.Over, C: bad.Over, M: zeroMap(bad.Over), N: zeroMap(bad.Over), U: []int{0}, T: bad, Led: bad, Steps: []impl.Step{stepAt(0, false, 0, []int{100})}})
+		checkApart(t, mapArgs{A: bad.Over, B: bad.Over, C: bad.Over, M: zeroMap(bad.Over), N: zeroMap(bad.Over), U: []int{0}, T: bad, Led: bad, Steps: []impl.Step{stepAt(0, false, 0, []int{100})}})
 	}
 }
 
