@@ -411,7 +411,7 @@ func checkKept(t *testing.T, r *rand.Rand, c setting, m, made impl.Model, seen m
 }
 
 // wantSeen fails if there are not so many kinds of what was counted, or too few of one of them.
-func wantSeen(t *testing.T, seen map[[2]bool]int, kinds, least int) {
+func wantSeen[K comparable](t *testing.T, seen map[K]int, kinds, least int) {
 	t.Helper()
 	if len(seen) != kinds {
 		t.Fatal(seen)
