@@ -301,3 +301,26 @@ func TestModelsOfNoTheories(t *testing.T) {
 		t.Fatal(list)
 	}
 }
+
+// As many axioms as there may be are asked, each of them.
+func TestEachAxiomIsAsked(t *testing.T) {
+	for k := range 6 {
+		axioms := slices.Repeat([]string{"0 f0(f0(x0))=f0(f0(x0))"}, 6)
+		axioms[k] = "0 f0(x0)=x0"
+		theory := known("1:00,0", axioms...)
+		want := []impl.Model{modelOf([]int{2}, []int{0, 1}, []int{0}), modelOf([]int{2}, []int{0, 1}, []int{1})}
+		wantModels(t, checkModels(t, theory, []int{2}), want, k)
+		wantModels(t, checkKinds(t, theory, []int{2}), want[:1], k)
+		if got, ok := checkRefuted(t, theory, eqOf(theory.Over, " f0(f1)=f1")); ok {
+			t.Fatal(k, got)
+		}
+	}
+	// Each of six leaves out others.
+	axioms := []string{" f0(f0(f1))=f1", " f0(f2)=f2", " f2=f3", " f4=f3", " f5=f4", "0 f0(x0)=f0(f4)"}
+	for many := range 7 {
+		list := checkModels(t, known("1:00,0,0,0,0,0", axioms[:many]...), []int{2})
+		if want := []int{128, 96, 48, 24, 12, 6, 2}[many]; len(list) != want {
+			t.Fatal(many, len(list), want)
+		}
+	}
+}
