@@ -141,6 +141,8 @@ func mark(v reflect.Value) {
 	switch v.Kind() {
 	case reflect.Int:
 		v.SetInt(spare)
+	case reflect.String:
+		v.SetString("spare")
 	case reflect.Struct:
 		for i := range v.NumField() {
 			mark(v.Field(i))
@@ -159,6 +161,8 @@ func wholeText(v reflect.Value) string {
 		return strconv.Itoa(int(v.Int())) + " "
 	case reflect.Bool:
 		return strconv.FormatBool(v.Bool()) + " "
+	case reflect.String:
+		return strconv.Quote(v.String()) + " "
 	case reflect.Struct:
 		for i := range v.NumField() {
 			text += wholeText(v.Field(i))
