@@ -161,7 +161,7 @@ func (a benchArgs) results() []any {
 	return list
 }
 
-// eachDeed returns a deed of each kind that can be done, one that cannot for each reason, and lines of all kinds, for a bench.
+// eachDeed returns a deed of each kind that can be done, some that cannot, and lines of all kinds but those that take long, for a bench.
 func eachDeed(r *rand.Rand, b impl.Bench) ([]impl.Deed, []string) {
 	deeds := []impl.Deed{{Kind: impl.BnSig, Text: anySigText(r)}, {Kind: impl.BnAxiom, Text: anyEqText(r, b.Now)}, {Kind: impl.BnDrop, Number: len(b.Now.Axioms) / 2}, {Kind: impl.BnBack}, {Kind: impl.BnSig}, {Kind: impl.BnAxiom}, {Kind: impl.BnDrop, Number: 6}, {Kind: impl.BnBack, Number: 1}, {Kind: 4}}
 	lines := []string{"now", "axioms", "past", "show 0", "what", "proof " + anyEqText(r, b.Now)}
